@@ -103,8 +103,12 @@ func MemText(m Mem) string {
 	if !MemOk(m) {
 		return ""
 	}
-	words := make([]string, len(m.Cells))
-	for i, v := range m.Cells {
+	return numbersText(m.Cells)
+}
+
+func numbersText(list []int) string {
+	words := make([]string, len(list))
+	for i, v := range list {
 		words[i] = strconv.Itoa(v)
 	}
 	return strings.Join(words, " ")

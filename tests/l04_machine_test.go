@@ -680,7 +680,7 @@ func TestMachineText(t *testing.T) {
 	}
 }
 
-func TestMachineTextInvalid(t *testing.T) {
+func machinesWithoutText() []impl.Machine {
 	list := []impl.Machine{
 		{},
 		machine(mem(1), idle(0), idle(0), idle(0), idle(0)),
@@ -694,7 +694,11 @@ func TestMachineTextInvalid(t *testing.T) {
 	for _, b := range badBufs() {
 		list = append(list, machine(mem(1), thread(0, vals(0, 0, 0, 0), b...)), machine(mem(1), idle(0), thread(0, nil, b...)))
 	}
-	for _, m := range list {
+	return list
+}
+
+func TestMachineTextInvalid(t *testing.T) {
+	for _, m := range machinesWithoutText() {
 		if got := impl.MachineText(m); got != "" {
 			t.Errorf("text of an invalid machine %v: %q", m, got)
 		}
