@@ -31,7 +31,7 @@ func blockOf(m Mem) (block, bool) {
 	return b, true
 }
 
-func (b block) has(a int) bool { return 0 <= a && a < b.size }
+func (b block) has(a int) bool { return indexOk(a, b.size) }
 
 func (b block) same(c block) bool { return b.size == c.size && b.cells == c.cells }
 
@@ -41,6 +41,8 @@ func (b block) mem() Mem { return Mem{Cells: b.cells[:b.size]} }
 func copyMem(m Mem) Mem { return Mem{Cells: slices.Clone(m.Cells)} }
 
 func valueOk(v int) bool { return v == Clamp(v) }
+
+func indexOk(i int, size int) bool { return 0 <= i && i < size }
 
 func MemOk(m Mem) bool {
 	if len(m.Cells) < 1 || len(m.Cells) > MaxCells {

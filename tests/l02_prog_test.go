@@ -274,17 +274,23 @@ func TestParseInstrRefused(t *testing.T) {
 	}
 }
 
+// lengthened returns each text with each character of the alphabet behind it.
+func lengthened(texts []string, alphabet string) []string {
+	var longer []string
+	for _, text := range texts {
+		for _, c := range alphabet {
+			longer = append(longer, text+string(c))
+		}
+	}
+	return longer
+}
+
 // Over a small alphabet of operands, whatever is accepted must be the text of its result.
 func TestParseInstrAcceptsOnlyTexts(t *testing.T) {
 	tails := []string{""}
 	for range 6 {
-		var longer []string
+		tails = lengthened(tails, "01- ")
 		for _, tail := range tails {
-			for _, c := range "01- " {
-				longer = append(longer, tail+string(c))
-			}
-		}
-		for _, tail := range longer {
 			for _, row := range opRows {
 				in, ok := impl.ParseInstr(row.name + tail)
 				if ok && impl.InstrText(in) != row.name+tail || !ok && in != (impl.Instr{}) {
@@ -292,7 +298,6 @@ func TestParseInstrAcceptsOnlyTexts(t *testing.T) {
 				}
 			}
 		}
-		tails = longer
 	}
 }
 
