@@ -291,15 +291,24 @@ func TestAllSmallPrograms(t *testing.T) {
 	}
 }
 
-func checkFenced(t *testing.T, p impl.Prog) {
-	t.Helper()
+// fencedProg has a fence after every store, if there is room for them.
+func fencedProg(p impl.Prog) (impl.Prog, bool) {
 	fenced := impl.Prog{Cells: p.Cells}
 	for _, list := range p.Codes {
 		longer, ok := impl.WithFences(list)
 		if !ok {
-			t.Fatal("no fences", p)
+			return impl.Prog{}, false
 		}
 		fenced.Codes = append(fenced.Codes, longer)
+	}
+	return fenced, true
+}
+
+func checkFenced(t *testing.T, p impl.Prog) {
+	t.Helper()
+	fenced, ok := fencedProg(p)
+	if !ok {
+		t.Fatal("no fences", p)
 	}
 	if impl.CountStates(fenced, false) < 0 {
 		t.Error("too many states to tell", fenced)
