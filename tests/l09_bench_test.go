@@ -402,27 +402,38 @@ func withItsRoom(b impl.Bench) impl.Bench {
 	return b
 }
 
-// checkSpoiled reports a result that has memory in common with the arguments, or a list of it with another one.
-func checkSpoiled(t *testing.T, b impl.Bench, a action) {
+// checkOwnMemory reports a result that has memory in common with the bench, or a list of it with another one.
+func checkOwnMemory(t *testing.T, b impl.Bench, what any, on func(impl.Bench) impl.Bench) {
 	t.Helper()
 	b = roomy(b)
 	before := copiedBench(withItsRoom(b))
-	list := slices.Clone(a.list)
-	want, _ := a.on(b)
+	want := on(b)
 	for i := range 3 {
-		after, _ := a.on(b)
+		after := on(b)
 		lists := [][]int{after.Linked, after.Waiting, after.Freed}
 		wanted := [][]int{want.Linked, want.Waiting, want.Freed}
 		spoilNumbers(lists[i])
 		for j := range lists {
 			if j != i && !slices.Equal(lists[j], wanted[j]) {
-				t.Error(a, "gives lists that share memory", b, i, j)
+				t.Error(what, "gives lists that share memory", b, i, j)
 			}
 		}
 		spoilBench(after)
 	}
-	if !sameBench(withItsRoom(b), before) || !slices.Equal(a.list, list) {
-		t.Error(a, "shares the memory of its arguments", before, b, a.list)
+	if !sameBench(withItsRoom(b), before) {
+		t.Error(what, "shares the memory of its bench", before, b)
+	}
+}
+
+func checkSpoiled(t *testing.T, b impl.Bench, a action) {
+	t.Helper()
+	list := slices.Clone(a.list)
+	checkOwnMemory(t, b, a, func(b impl.Bench) impl.Bench {
+		after, _ := a.on(b)
+		return after
+	})
+	if !slices.Equal(a.list, list) {
+		t.Error(a, "shares the memory of its list", list)
 	}
 }
 
