@@ -19,14 +19,18 @@ func opDrop(t int, x int) impl.Op { return opOf(2, t, x) }
 
 func opCut(x int) impl.Op { return opOf(3, 0, x) }
 
-func (d diary) holders(x int) int {
+func (d diary) countHolds(which func(impl.Hold) bool) int {
 	n := 0
 	for _, h := range d.takes {
-		if h.X == x {
+		if which(h) {
 			n++
 		}
 	}
 	return n
+}
+
+func (d diary) holders(x int) int {
+	return d.countHolds(func(h impl.Hold) bool { return h.X == x })
 }
 
 // freedIfIdle is the diary after x was given up by somebody.
@@ -511,12 +515,15 @@ func TestPlayCountShort(t *testing.T) {
 	}
 }
 
-// someOps are operations on the objects that there may be, above all the newest ones, and drops of holds that there are.
-func someOps(source *rand.Rand, size int) []impl.Op {
+// someOps are operations of the kinds, now and then of another one, on the objects that there may be, above all the newest ones, and drops of holds that there are. The diary is that after an operation.
+func someOps(source *rand.Rand, size int, kinds []int, after func(impl.Op) diary) []impl.Op {
 	ops := make([]impl.Op, size)
 	d := diary{}
 	for i := range ops {
-		kind := []int{0, 1, 1, 1, 1, 2, 2, 2, 2, 3, 4, 5, 6, source.IntN(13) - 3}[source.IntN(14)]
+		kind := kinds[source.IntN(len(kinds))]
+		if source.IntN(20) == 0 {
+			kind = source.IntN(13) - 3
+		}
 		worker := source.IntN(5)
 		if source.IntN(20) == 0 {
 			worker = source.IntN(9) - 2
@@ -526,7 +533,7 @@ func someOps(source *rand.Rand, size int) []impl.Op {
 			h := d.takes[source.IntN(len(d.takes))]
 			ops[i] = opDrop(h.T, h.X)
 		}
-		d, _ = wantCount(d, ops[i])
+		d = after(ops[i])
 	}
 	return ops
 }
@@ -536,7 +543,11 @@ func TestPlayCountLong(t *testing.T) {
 	source := rand.New(rand.NewPCG(10, 10))
 	lastDropped, cutIdle := 0, 0
 	for range 60 {
-		ops := someOps(source, impl.MaxOps)
+		d := diary{}
+		ops := someOps(source, impl.MaxOps, []int{0, 1, 1, 1, 1, 2, 2, 2, 2, 3, 4, 5, 6}, func(op impl.Op) diary {
+			d, _ = wantCount(d, op)
+			return d
+		})
 		checkCountSteps(t, ops)
 		for size := 0; size <= impl.MaxOps; size += 50 {
 			checkPlayCount(t, ops[:size])
